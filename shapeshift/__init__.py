@@ -1,0 +1,1 @@
+"""Old and new programs on one store, each by the shape that it knows."""

@@ -1,0 +1,59 @@
+"""How a row's values in a version become those in the next one."""
+
+from shapeshift.changes import COME, GONE, GREATER, PARTED, TURNED
+from shapeshift.limits import MOST_DIGITS
+
+NOUGHT = 48
+NINE = 57
+
+
+def is_plain_number(value):
+    if not 1 <= len(value) <= MOST_DIGITS:
+        return False
+    if len(value) > 1 and value[0] == NOUGHT:
+        return False
+    return all([NOUGHT <= byte <= NINE for byte in value])
+
+
+def in_greater_units(value, number):
+    if not is_plain_number(value):
+        return value
+    # Without its last digits a number is divided by that power of ten and rounded down.
+    if len(value) > number:
+        return value[:len(value) - number]
+    return [NOUGHT]
+
+
+def turned_about(value, b, c):
+    if value == b:
+        return c
+    if value == c:
+        return b
+    return value
+
+
+def parted_at(value, byte):
+    if byte not in value:
+        return [value, []]
+    place = value.index(byte)
+    return [value[:place], value[place + 1:]]
+
+
+def values_in_place(change, value):
+    if change.kind == GONE:
+        return []
+    if change.kind == TURNED:
+        return [turned_about(value, change.b, change.c)]
+    if change.kind == GREATER:
+        return [in_greater_units(value, change.number)]
+    if change.kind == PARTED:
+        return parted_at(value, change.number)
+    return [value]
+
+
+# No value before the change tells what a field that came has, so it is handed in as came.
+def carried_on(change, fields, values, came):
+    if change.kind == COME:
+        return values + [came]
+    place = fields.index(change.a)
+    return values[:place] + values_in_place(change, values[place]) + values[place + 1:]

@@ -1,0 +1,17 @@
+"""How much a store holds, and the numbers that tell a refusal."""
+
+MOST_VERSIONS = 16
+MOST_FIELDS = 16
+MOST_ROWS = 32
+
+LONGEST_NAME = 16
+LONGEST_VALUE = 64
+LONGEST_TURNED = 16
+MOST_DIGITS = 18
+MOST_NOUGHTS = 9
+LAST_BYTE = 255
+
+NOT_THERE = -2
+TAKEN = -17
+MALFORMED = -22
+FULL = -28
