@@ -1,14 +1,19 @@
 """The calls on one object, told and answered in numbers."""
 
 from shapeshift.changes import Change
+from shapeshift.limits import NOT_THERE
 from shapeshift.versions import Versions
 
 ST_START = 0
 ST_CHANGE = 1
 ST_BACK = 2
 ST_NEW = 3
+ST_READ = 4
+ST_WRITE = 5
+ST_FIELD = 6
 
 NUMBER_FORM = 0
+BYTES_FORM = 1
 
 
 class UnknownCall(ValueError):
@@ -45,16 +50,55 @@ def take_change(reader):
     return Change(kind, number, a, b, c, value)
 
 
+def told_number(number):
+    return [NUMBER_FORM, number]
+
+
+def told_bytes(row):
+    return [BYTES_FORM, len(row)] + row
+
+
+def answer_read(versions, reader):
+    v = reader.take_number()
+    row = reader.take_number()
+    field = reader.take_row()
+    if not versions.has_value(v, row, field):
+        return told_number(NOT_THERE)
+    return told_bytes(versions.value_of(v, row, field))
+
+
+def answer_write(versions, reader):
+    v = reader.take_number()
+    row = reader.take_number()
+    field = reader.take_row()
+    value = reader.take_row()
+    return told_number(versions.write_value(v, row, field, value))
+
+
+def answer_field(versions, reader):
+    v = reader.take_number()
+    k = reader.take_number()
+    if not versions.has_field(v, k):
+        return told_number(NOT_THERE)
+    return told_bytes(versions.name_of(v, k))
+
+
 def answer_next(versions, reader):
     call = reader.take_number()
     if call == ST_START:
-        return [NUMBER_FORM, versions.begin_anew()]
+        return told_number(versions.begin_anew())
     if call == ST_CHANGE:
-        return [NUMBER_FORM, versions.add_version(take_change(reader))]
+        return told_number(versions.add_version(take_change(reader)))
     if call == ST_BACK:
-        return [NUMBER_FORM, versions.drop_version()]
+        return told_number(versions.drop_version())
     if call == ST_NEW:
-        return [NUMBER_FORM, versions.add_row()]
+        return told_number(versions.add_row())
+    if call == ST_READ:
+        return answer_read(versions, reader)
+    if call == ST_WRITE:
+        return answer_write(versions, reader)
+    if call == ST_FIELD:
+        return answer_field(versions, reader)
     raise UnknownCall(f"there is no call {call}")
 
 

@@ -2,7 +2,8 @@
 
 from shapeshift.carrying import carried_on
 from shapeshift.changes import fields_behind, refusal
-from shapeshift.limits import FULL, MOST_ROWS, MOST_VERSIONS, NOT_THERE
+from shapeshift.limits import AT_ODDS, FULL, LONGEST_VALUE, MOST_ROWS, MOST_VERSIONS, NOT_THERE
+from shapeshift.writing import how_many_differ, may_stand, row_written
 
 
 # shapes has the names of each version's fields; changes[v] leads from version v to v + 1.
@@ -47,3 +48,27 @@ class Versions:
             row.append(carried_on(change, fields, row[-1], change.value))
         self.rows.append(row)
         return len(self.rows) - 1
+
+    def has_value(self, v, row, field):
+        return v < len(self.shapes) and row < len(self.rows) and field in self.shapes[v]
+
+    def value_of(self, v, row, field):
+        return self.rows[row][v][self.shapes[v].index(field)]
+
+    def write_value(self, v, row, field, value):
+        if not self.has_value(v, row, field):
+            return NOT_THERE
+        if len(value) > LONGEST_VALUE:
+            return FULL
+        before = self.rows[row]
+        after = row_written(self.shapes, self.changes, before, v, field, value)
+        if not may_stand(self.shapes, self.changes, after):
+            return AT_ODDS
+        self.rows[row] = after
+        return how_many_differ(before, after)
+
+    def has_field(self, v, k):
+        return v < len(self.shapes) and k < len(self.shapes[v])
+
+    def name_of(self, v, k):
+        return self.shapes[v][k]

@@ -45,6 +45,18 @@ def parted(a, b, c, byte):
     return change(5, a, b, c, number=byte)
 
 
+def read(v, number, f):
+    return [4, v, number] + counted(f)
+
+
+def write(v, number, f, b):
+    return [5, v, number] + counted(f) + counted(b)
+
+
+def field(v, k):
+    return [6, v, k]
+
+
 def in_numbers(calls):
     return [number for call in calls for number in call]
 
@@ -57,13 +69,37 @@ def parts(given):
     return told
 
 
+def plain(answer):
+    """The number of form 0, or the text of form 1."""
+    if answer[0] == 0:
+        assert len(answer) == 2, answer
+        return answer[1]
+    assert answer[0] == 1 and answer[1] == len(answer) - 2, answer
+    return bytes(answer[2:]).decode("latin-1")
+
+
 def ask(*calls):
-    """The number that each call answers; every one of them is told in form 0."""
-    told = parts(answers(in_numbers(calls)))
-    for answer in told:
-        assert len(answer) == 2 and answer[0] == 0, answer
-    return [answer[1] for answer in told]
+    """What each call answers: a number or a text."""
+    return [plain(answer) for answer in parts(answers(in_numbers(calls)))]
 
 
 def ask_last(*calls):
     return ask(START, *calls)[-1]
+
+
+def names(*calls):
+    """The names of each version's fields, in their order, behind the calls."""
+    versions = max(ask_last(*calls, BACK) + 1, 1)
+    told = ask(START, *calls, *[field(v, k) for v in range(versions) for k in range(16)])[-16 * versions:]
+    return [[name for name in told[16 * v:16 * v + 16] if name != -2] for v in range(versions)]
+
+
+def whole(*calls, rows=1):
+    """Of each row, in each version, what each field has, behind the calls."""
+    fields = names(*calls)
+    places = [(number, v, name) for number in range(rows) for v in range(len(fields)) for name in fields[v]]
+    told = ask(START, *calls, *[read(v, number, name) for number, v, name in places])[1 + len(calls):]
+    stand = [[{} for version in fields] for number in range(rows)]
+    for (number, v, name), value in zip(places, told):
+        stand[number][v][name] = value
+    return stand

@@ -18,6 +18,9 @@ OWN_NAMES = """len range enumerate zip min max sum abs sorted reversed int str b
 isinstance ord repr any all divmod Exception ValueError TypeError KeyError IndexError LookupError ZeroDivisionError
 ArithmeticError OverflowError RuntimeError NotImplementedError AttributeError StopIteration""".split()
 
+WALKED = "zip enumerate reversed range items keys values".split()
+HOLDERS = "list tuple dict sorted sum any all enumerate zip min max".split()
+
 METHODS = """append clear copy count endswith extend find get index insert isalnum isalpha isdigit islower isspace isupper
 items join keys ljust lower lstrip partition pop remove replace reverse rfind rjust rpartition rsplit rstrip setdefault
 split splitlines startswith strip update upper values zfill bit_length""".split()
@@ -42,6 +45,22 @@ def bound_names(node):
     if isinstance(node, ast.Attribute) and isinstance(node.ctx, ast.Store):
         return [node.attr]
     return []
+
+
+def tree_of(path):
+    return ast.parse(path.read_text())
+
+
+def imports_of(path):
+    return [node for node in tree_of(path).body if isinstance(node, ast.ImportFrom)]
+
+
+def is_plain_value(node):
+    if isinstance(node, ast.UnaryOp):
+        return isinstance(node.op, ast.USub) and is_plain_value(node.operand)
+    if isinstance(node, ast.Tuple):
+        return all(is_plain_value(part) for part in node.elts)
+    return isinstance(node, ast.Constant)
 
 
 class Files(unittest.TestCase):
@@ -123,6 +142,65 @@ class Code(unittest.TestCase):
                 for method in [part.name for part in node.body if isinstance(part, ast.FunctionDef)]:
                     self.assertNotIn(method, stored)
         self.assertEqual([name for name in stored if name in taken], [])
+
+    def test_the_top_of_a_file(self):
+        for path in FILES:
+            first, *rest = tree_of(path).body
+            self.assertIsInstance(first.value.value, str)
+            for node in rest:
+                self.assertIsInstance(node, (ast.ImportFrom, ast.FunctionDef, ast.ClassDef, ast.Assign))
+                if isinstance(node, ast.Assign):
+                    self.assertTrue(is_plain_value(node.value), (path, node.lineno))
+            bound = [name for node in rest for name in bound_names(node)]
+            bound += [node.targets[0].id for node in rest if isinstance(node, ast.Assign)]
+            bound += [name.name for node in imports_of(path) for name in node.names]
+            self.assertEqual(len(bound), len(set(bound)), path)
+
+    def test_no_local_is_called_like_an_import_or_a_class(self):
+        for path in FILES:
+            taken = [name.name for node in imports_of(path) for name in node.names]
+            taken += [node.name for node in tree_of(path).body if isinstance(node, ast.ClassDef)]
+            for node in ast.walk(tree_of(path)):
+                if isinstance(node, (ast.arg, ast.Name)):
+                    self.assertEqual([name for name in bound_names(node) if name in taken], [], (path, node.lineno))
+
+    def test_no_two_files_draw_from_one_another(self):
+        drawn = {path.stem: [node.module.split(".")[-1] for node in imports_of(path)] for path in FILES}
+        while drawn:
+            free = [stem for stem in drawn if not any(other in drawn for other in drawn[stem])]
+            self.assertNotEqual(free, [], drawn)
+            drawn = {stem: drawn[stem] for stem in drawn if stem not in free}
+
+    def test_what_is_walked_at_once(self):
+        for path in FILES:
+            calls = []
+            walked_there = []
+            for node in ast.walk(tree_of(path)):
+                if isinstance(node, (ast.For, ast.comprehension)):
+                    walked_there.append(node.iter)
+                if isinstance(node, ast.Call):
+                    calls.append((node, getattr(node.func, "id", getattr(node.func, "attr", ""))))
+            walked_there += [part for node, name in calls if name in HOLDERS for part in node.args[:1]]
+            for node, name in calls:
+                if name in WALKED:
+                    self.assertIn(node, walked_there, (path, node.lineno))
+
+    def test_no_annotation_set_or_nested_walk(self):
+        for path, node in walked():
+            self.assertNotIsInstance(node, (ast.Set, ast.Lambda))
+            if isinstance(node, ast.arg):
+                self.assertIsNone(node.annotation)
+            if isinstance(node, ast.FunctionDef):
+                self.assertIsNone(node.returns)
+            if isinstance(node, ast.ListComp):
+                self.assertEqual(len(node.generators), 1)
+                self.assertLessEqual(len(node.generators[0].ifs), 1)
+            if isinstance(node, ast.Compare) and isinstance(node.ops[0], (ast.Is, ast.IsNot)):
+                self.assertIsInstance(node.comparators[0], ast.Constant)
+            if isinstance(node, ast.Constant) and isinstance(node.value, str):
+                self.assertNotIn("%", node.value)
+            if isinstance(node, ast.Call):
+                self.assertEqual(node.keywords, [])
 
 
 if __name__ == "__main__":
